@@ -1,0 +1,1 @@
+"""Nearby: local computation on networks."""

@@ -1,0 +1,82 @@
+import importlib
+import inspect
+import unittest
+
+FUNCTIONS = {
+    "network": {"distances": "network node", "suits": "network bounds", "bounds_of": "network"},
+    "building": {
+        "path": "count", "ring": "count", "grid": "rows columns", "star": "count",
+        "renamed": "network names", "turned": "network orders",
+    },
+    "netreader": {"network_text": "network", "read_network": "text"},
+    "running": {
+        "run": "network bounds algorithm *given", "letter_count": "network bounds algorithm",
+        "states_after": "network bounds algorithm rounds *given",
+    },
+}
+
+CLASSES = {
+    "errors": {
+        "NearbyError": None, "InvalidText": "line", "InvalidNetwork": None, "InvalidBounds": None, "InvalidInput": None,
+        "InvalidBall": None, "InvalidLift": None, "TooLarge": None,
+    },
+    "network": {"Network": "names neighbors"},
+    "simple": {"Quiet": "value", "Echo": "", "Names": "count", "Spread": "count"},
+}
+
+METHODS = {"size": "", "names": "", "neighbors": "node", "degree": "node", "far_port": "node port", "links": ""}
+
+ALGORITHM_METHODS = {
+    "rounds": "bounds", "begin": "bounds name degree given", "letters": "bounds state",
+    "receive": "bounds state received", "output": "bounds state",
+}
+
+ALGORITHMS = ["simple"]
+
+
+def told_parameters(function):
+    """The names of the parameters; a star stands before one that is passed by keyword."""
+    words = []
+    for name, parameter in inspect.signature(function).parameters.items():
+        words.append(("*" if parameter.kind is parameter.KEYWORD_ONLY else "") + name)
+    return " ".join(words)
+
+
+class InterfaceTest(unittest.TestCase):
+    def test_functions(self):
+        for file, functions in FUNCTIONS.items():
+            module = importlib.import_module("nearby." + file)
+            for name, parameters in functions.items():
+                function = getattr(module, name)
+                self.assertEqual(function.__module__, "nearby." + file)
+                self.assertEqual(told_parameters(function), parameters, name)
+                for parameter in inspect.signature(function).parameters.values():
+                    if parameter.kind is parameter.KEYWORD_ONLY:
+                        self.assertIsNone(parameter.default)
+
+    def test_classes(self):
+        for file, classes in CLASSES.items():
+            module = importlib.import_module("nearby." + file)
+            for name, parameters in classes.items():
+                told = getattr(module, name)
+                self.assertEqual(told.__module__, "nearby." + file)
+                if parameters is not None:
+                    self.assertEqual(told_parameters(told) if "__init__" in vars(told) else "", parameters, name)
+
+    def check_methods(self, told, methods):
+        for name, parameters in methods.items():
+            self.assertIn(name, vars(told))
+            self.assertEqual(told_parameters(vars(told)[name]), ("self " + parameters).strip())
+
+    def test_methods(self):
+        self.check_methods(importlib.import_module("nearby.network").Network, METHODS)
+
+    def test_methods_of_algorithms(self):
+        for file in ALGORITHMS:
+            module = importlib.import_module("nearby." + file)
+            for name in CLASSES[file]:
+                self.check_methods(getattr(module, name), ALGORITHM_METHODS)
+
+
+if __name__ == "__main__":
+    unittest.main()
