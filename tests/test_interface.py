@@ -13,6 +13,15 @@ FUNCTIONS = {
         "run": "network bounds algorithm *given", "letter_count": "network bounds algorithm",
         "states_after": "network bounds algorithm rounds *given",
     },
+    "late": {"run_late": "network bounds algorithm choices *given"},
+    "balls": {
+        "ball_of": "network node radius *given", "view_of": "network node depth *given",
+        "output_in_ball": "ball bounds algorithm", "output_in_view": "view bounds algorithm",
+    },
+    "palettes": {
+        "is_prime": "number", "prime_from": "number", "step_of": "degree colors", "palettes": "bounds",
+        "shrunk": "color others step",
+    },
 }
 
 CLASSES = {
@@ -22,6 +31,8 @@ CLASSES = {
     },
     "network": {"Network": "names neighbors"},
     "simple": {"Quiet": "value", "Echo": "", "Names": "count", "Spread": "count"},
+    "joining": {"Then": "first second"},
+    "balls": {"Gather": "radius", "GatherView": "depth"},
 }
 
 METHODS = {"size": "", "names": "", "neighbors": "node", "degree": "node", "far_port": "node port", "links": ""}
@@ -31,7 +42,7 @@ ALGORITHM_METHODS = {
     "receive": "bounds state received", "output": "bounds state",
 }
 
-ALGORITHMS = ["simple"]
+ALGORITHMS = ["simple", "joining", "balls"]
 
 
 def told_parameters(function):
