@@ -1,7 +1,11 @@
 """Networks and algorithms that several tests use."""
 
+import random
+
 from nearby.building import grid, path, renamed, ring, star, turned
-from nearby.network import Network
+from nearby.late import run_late
+from nearby.network import Network, bounds_of
+from nearby.running import run
 
 
 def complete(count):
@@ -22,6 +26,57 @@ def crooked_grid():
     orders = [list(range(network.degree(node)))[::-1] for node in range(9)]
     orders[4] = [2, 0, 3, 1]
     return turned(network, orders)
+
+
+def tangled(seed, count, most):
+    """A network of a number of nodes with at most `most` neighbors each, with names and ports in no order."""
+    choose = random.Random(seed)
+    rows = [[] for _ in range(count)]
+    for _ in range(3 * count):
+        node, other = choose.randrange(count), choose.randrange(count)
+        if node != other and other not in rows[node] and max(len(rows[node]), len(rows[other])) < most:
+            rows[node].insert(choose.randrange(len(rows[node]) + 1), other)
+            rows[other].insert(choose.randrange(len(rows[other]) + 1), node)
+    return Network(choose.sample(range(5 * count), count), rows)
+
+
+def many():
+    """The samples, and more networks with scattered names."""
+    return samples() + [
+        tangled(1, 9, 2), tangled(2, 10, 3), tangled(3, 12, 4), tangled(4, 16, 6), tangled(5, 20, 3),
+        renamed(path(9), [8, 3, 77, 5, 1, 60, 2, 9, 4]), renamed(ring(7), [64, 3, 31, 99, 2, 128, 16]),
+        renamed(star(6), [9, 100, 3, 44, 5, 71]),
+    ]
+
+
+def bounds_for(network):
+    """Bounds that fit exactly, and greater ones."""
+    degree, names = bounds_of(network)
+    return [(degree, names), (degree + 1, names), (degree, 3 * names + 7), (degree + 2, names + 1000)]
+
+
+def outputs_of(network, bounds, algorithm, given=None):
+    """The outputs of a run, which must be those of late runs."""
+    outputs = run(network, bounds, algorithm, given=given)
+    for choices in [[], [7, 2, 9, 0, 4, 31, 6, 5, 12, 8, 3, 1] * 4]:
+        late = run_late(network, bounds, algorithm, choices, given=given)[0]
+        if late != outputs:
+            raise AssertionError("a late run has other outputs")
+    return outputs
+
+
+def ports_of(network, node):
+    """The tuples (port, neighbor) of a node."""
+    return list(enumerate(network.neighbors(node)))
+
+
+def changed(row, at, value):
+    """A copy of a list with another value at a place."""
+    return row[:at] + [value] + row[at + 1:]
+
+
+def is_data(value):
+    return value is None or type(value) in (int, str) or type(value) is tuple and all(map(is_data, value))
 
 
 def samples():

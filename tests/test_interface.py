@@ -22,6 +22,14 @@ FUNCTIONS = {
         "is_prime": "number", "prime_from": "number", "step_of": "degree colors", "palettes": "bounds",
         "shrunk": "color others step",
     },
+    "coloring": {"is_coloring": "network outputs colors"},
+    "sets": {
+        "is_independent": "network outputs", "is_maximal_independent": "network outputs",
+        "is_dominating": "network outputs", "is_cover": "network outputs",
+    },
+    "matching": {"is_matching": "network outputs", "is_maximal_matching": "network outputs"},
+    "ruling": {"are_rulers": "network outputs reach", "are_clusters": "network outputs reach"},
+    "forests": {"are_forests": "network outputs"},
 }
 
 CLASSES = {
@@ -33,6 +41,11 @@ CLASSES = {
     "simple": {"Quiet": "value", "Echo": "", "Names": "count", "Spread": "count"},
     "joining": {"Then": "first second"},
     "balls": {"Gather": "radius", "GatherView": "depth"},
+    "coloring": {"Shrink": "", "Fewer": "colors", "Colors": ""},
+    "sets": {"IndependentFromColors": "", "Independent": ""},
+    "matching": {"MatchingFromColors": "", "Matching": "", "CoverByMatching": "", "NamelessCover": ""},
+    "ruling": {"Rulers": "", "ClustersFromRulers": "", "Clusters": ""},
+    "forests": {"Forests": "", "Heights": "count"},
 }
 
 METHODS = {"size": "", "names": "", "neighbors": "node", "degree": "node", "far_port": "node port", "links": ""}
@@ -42,7 +55,7 @@ ALGORITHM_METHODS = {
     "receive": "bounds state received", "output": "bounds state",
 }
 
-ALGORITHMS = ["simple", "joining", "balls"]
+ALGORITHMS = ["simple", "joining", "balls", "coloring", "sets", "matching", "ruling", "forests"]
 
 
 def told_parameters(function):

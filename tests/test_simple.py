@@ -4,7 +4,7 @@ from nearby.building import path
 from nearby.network import bounds_of, distances
 from nearby.running import run, states_after
 from nearby.simple import Echo, Names, Quiet, Spread
-from tests.helpers import inputs_for, samples, scattered
+from tests.helpers import inputs_for, is_data, samples, scattered
 
 
 def near(network, node, count):
@@ -72,9 +72,6 @@ class SimpleTest(unittest.TestCase):
                 self.assertEqual(len(letters), degree)
 
     def test_nothing_but_data(self):
-        def is_data(value):
-            return value is None or type(value) in (int, str) or type(value) is tuple and all(map(is_data, value))
-
         network = scattered()
         for algorithm in [Quiet((1, "x")), Echo(), Names(2), Spread(2)]:
             states = states_after(network, (3, 31), algorithm, algorithm.rounds((3, 31)), given=inputs_for(network))
