@@ -32,24 +32,46 @@ def _ports_known(network, node, away, radius):
 
 def view_of(network, node, depth, *, given=None):
     """Return the view of a node."""
-    inputs = inputs_of(network, given)
-    nodes = range(network.size())
-    views = [(network.degree(other), inputs[other]) for other in nodes]
-    kinds = [views.index(view) for view in views]
-    firsts = kinds
+    kinds, views = views_by_kind([network], [inputs_of(network, given)], depth)
+    return views[kinds[0][node]]
+
+
+def views_by_kind(networks, inputs, depth):
+    """Return the numbers of the views of all nodes, in a list for each network, and the views by number.
+
+    Equal views have the same number, also in different networks. The numbers
+    are given from 0 on, in the order of the networks and of their nodes.
+    """
+    bases = []
+    roots = [_base_kinds(bases, network, row) for network, row in zip(networks, inputs)]
+    kinds = roots
+    # Equal views are one tuple. So a view of any depth stays small in memory,
+    # and comparing two views does not go through all their parts.
+    views = bases
     for _ in range(depth):
-        rows = [(kinds[other], _row_of(network, other, firsts)) for other in nodes]
-        deeper = [(network.degree(other), inputs[other], tuple(_row_of(network, other, views))) for other in nodes]
-        firsts = [rows.index(row) for row in rows]
-        # Equal views become one tuple. So a view of any depth stays small in
-        # memory, and comparing two views does not go through all their parts.
-        views = [deeper[first] for first in firsts]
-    return views[node]
+        known = {}
+        kinds = [_deeper_kinds(known, network, roots[at], kinds[at]) for at, network in enumerate(networks)]
+        views = [bases[root] + (tuple([(port, views[kind]) for port, kind in row]),) for root, row in known]
+    return kinds, views
 
 
-def _row_of(network, node, values):
-    """Return the list of the tuples (far port, value of the neighbor) by ports."""
-    return [(network.far_port(node, port), values[other]) for port, other in enumerate(network.neighbors(node))]
+def _base_kinds(bases, network, inputs):
+    kinds = []
+    for node, given in enumerate(inputs):
+        base = (network.degree(node), given)
+        if base not in bases:
+            bases.append(base)
+        kinds.append(bases.index(base))
+    return kinds
+
+
+def _deeper_kinds(known, network, roots, kinds):
+    """Return the numbers of the views that are deeper by 1, by what is known of those before."""
+    deeper = []
+    for node, root in enumerate(roots):
+        row = [(network.far_port(node, port), kinds[other]) for port, other in enumerate(network.neighbors(node))]
+        deeper.append(known.setdefault((root, tuple(row)), len(known)))
+    return deeper
 
 
 def output_in_ball(ball, bounds, algorithm):

@@ -55,12 +55,13 @@ def _names_in(line):
     words = line.split(" ")
     if words[0] != "node" or len(words) < 2:
         return None
-    if not all([_is_name(word) for word in words[1:]]):
+    if not all([is_number(word) for word in words[1:]]):
         return None
     return [int(word) for word in words[1:]]
 
 
-def _is_name(word):
+def is_number(word):
+    """Return True if a word is a decimal number as names are written, otherwise False."""
     if not (word.isascii() and word.isdigit()):
         return False
     return len(word) <= MOST_DIGITS and (word == "0" or not word.startswith("0"))

@@ -30,6 +30,19 @@ FUNCTIONS = {
     "matching": {"is_matching": "network outputs", "is_maximal_matching": "network outputs"},
     "ruling": {"are_rulers": "network outputs reach", "are_clusters": "network outputs reach"},
     "forests": {"are_forests": "network outputs"},
+    "tasks": {
+        "answers": "task degree", "solves": "task network outputs", "least_cover": "network",
+        "least_dominating": "network",
+    },
+    "papers": {"check_paper": "paper", "two_paths": "radius", "rule_of_paper": "paper"},
+    "lifts": {
+        "lift": "network sheets shifts names", "is_lift": "lifted network copied",
+        "view_classes": "network depth", "stable_depth": "network",
+    },
+    "labels": {
+        "says_yes": "sort name label neighbors", "all_say_yes": "sort network labels", "labels_for": "sort network",
+    },
+    "laboratory": {"algorithm_named": "word", "output_text": "output"},
 }
 
 CLASSES = {
@@ -46,9 +59,15 @@ CLASSES = {
     "matching": {"MatchingFromColors": "", "Matching": "", "CoverByMatching": "", "NamelessCover": ""},
     "ruling": {"Rulers": "", "ClustersFromRulers": "", "Clusters": ""},
     "forests": {"Forests": "", "Heights": "count"},
+    "laboratory": {"Laboratory": ""},
 }
 
-METHODS = {"size": "", "names": "", "neighbors": "node", "degree": "node", "far_port": "node port", "links": ""}
+METHODS = {
+    ("network", "Network"): {
+        "size": "", "names": "", "neighbors": "node", "degree": "node", "far_port": "node port", "links": "",
+    },
+    ("laboratory", "Laboratory"): {"answer": "line", "answers": "lines"},
+}
 
 ALGORITHM_METHODS = {
     "rounds": "bounds", "begin": "bounds name degree given", "letters": "bounds state",
@@ -93,7 +112,8 @@ class InterfaceTest(unittest.TestCase):
             self.assertEqual(told_parameters(vars(told)[name]), ("self " + parameters).strip())
 
     def test_methods(self):
-        self.check_methods(importlib.import_module("nearby.network").Network, METHODS)
+        for (file, name), methods in METHODS.items():
+            self.check_methods(getattr(importlib.import_module("nearby." + file), name), methods)
 
     def test_methods_of_algorithms(self):
         for file in ALGORITHMS:
