@@ -109,7 +109,7 @@ class WrongLinesTest(unittest.TestCase):
         "late colors 1234567890", "late colors 1 1234567890", "late colors 1,2", "late colors\n",
         "ball", "ball ", "ball 3", "ball 3 ", "ball 3 1 ", "ball 3  1", "ball  3 1", "ball 3 1 1", "ball 3 10",
         "ball 3 01", "ball 3 00", "ball 03 1", "ball 3 -1", "ball 3 +1", "ball -3 1", "ball x 1", "ball 3 x",
-        "ball 1234567890 1", "ball 3 1234567890", "ball 3 999999999", "ball 3 1\n",
+        "balls 3 1", "x 3 1", "7 3 1", " 3 1", "ball 1234567890 1", "ball 3 1234567890", "ball 3 999999999", "ball 3 1\n",
     ]
 
     def test_what(self):

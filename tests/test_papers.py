@@ -40,6 +40,15 @@ def rules_by_words(paper):
             yield rule
 
 
+def has_coloring(network, count, colors):
+    """Whether the colors of the first nodes can be continued to a coloring."""
+    node = len(colors)
+    if node == network.size():
+        return True
+    near = [colors[other] for other in network.neighbors(node) if other < node]
+    return any(has_coloring(network, count, colors + [color]) for color in range(count) if color not in near)
+
+
 def crossed(count, names):
     """A path with names and with every second node turned."""
     network = renamed(path(count), names)
@@ -96,6 +105,13 @@ class PapersTest(unittest.TestCase):
             for count in range(1, 9):
                 self.check((("colors", count), 1, True, [network]), count < least)
         self.check((("colors", 100000), 1, True, [complete(5)]), False)
+
+    def test_colors_of_networks_without_order(self):
+        for seed in range(120):
+            network = tangled(seed, 7 + seed % 4, 3 + seed % 4)
+            for count in [2, 3, 4]:
+                right = not has_coloring(network, count, [])
+                self.check((("colors", count), seed % 3, True, [network]), right)
 
     def test_views_on_a_ring(self):
         # All nodes of a ring have the same views, of whatever depth.
