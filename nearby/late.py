@@ -45,10 +45,23 @@ class LateNodes:
         node, port, mark, letter = self.way[at]
         if choice % 2 == 0:
             del self.way[at]
+        self.take(node, port, mark, letter)
+        return max([abs(self._done[node] - self._done[other]) for other in self._network.neighbors(node)])
+
+    def take(self, node, port, mark, letter):
+        """Let a node get a letter through a port, and do all that it then can do."""
         if mark > self._done[node]:
             self._kept[node].setdefault((mark, port), letter)
         self._go_on(node)
-        return max([abs(self._done[node] - self._done[other]) for other in self._network.neighbors(node)])
+
+    def send_letter(self, node, port, mark, letter):
+        """Let a node send a letter through a port."""
+        self.post(node, port, mark, letter)
+
+    def post(self, node, port, mark, content):
+        """Put on the way what a node sends through a port."""
+        other = self._network.neighbors(node)[port]
+        self.way.append((other, self._network.far_port(node, port), mark, content))
 
     def outputs(self):
         """Return the outputs of all nodes."""
@@ -59,8 +72,8 @@ class LateNodes:
             return
         letters = self._algorithm.letters(self._bounds, self._states[node])
         mark = self._done[node] + 1
-        for port, other in enumerate(self._network.neighbors(node)):
-            self.way.append((other, self._network.far_port(node, port), mark, letters[port]))
+        for port in range(self._network.degree(node)):
+            self.send_letter(node, port, mark, letters[port])
 
     def _go_on(self, node):
         while self._done[node] < self._last and self._is_ready(node):

@@ -19,6 +19,15 @@ def states_after(network, bounds, algorithm, rounds, *, given=None):
     return _after(network, bounds, algorithm, states, rounds)
 
 
+def states_by_round(network, bounds, algorithm, given):
+    """Return the lists of the states of all nodes after 0, 1, .., all rounds."""
+    rows = [first_states(network, bounds, algorithm, given)]
+    ends = ends_of(network)
+    for _ in range(algorithm.rounds(bounds)):
+        rows.append(after_round(ends, bounds, algorithm, rows[-1]))
+    return rows
+
+
 def letter_count(network, bounds, algorithm):
     """Return the number of the letters of a run without inputs."""
     return 2 * len(network.links()) * algorithm.rounds(bounds)
@@ -49,12 +58,23 @@ def begun(algorithm, bounds, name, degree, given):
     return algorithm.begin(bounds, known, degree, given)
 
 
+def ends_of(network):
+    """Return for each node the list of the tuples (neighbor, port that leads back), by ports."""
+    return [
+        [(other, network.far_port(node, port)) for port, other in enumerate(network.neighbors(node))]
+        for node in range(network.size())
+    ]
+
+
+def after_round(ends, bounds, algorithm, states):
+    """Return the states of all nodes after one more round."""
+    sent = [algorithm.letters(bounds, state) for state in states]
+    received = [[sent[other][port] for other, port in row] for row in ends]
+    return [algorithm.receive(bounds, state, row) for state, row in zip(states, received)]
+
+
 def _after(network, bounds, algorithm, states, rounds):
+    ends = ends_of(network)
     for _ in range(rounds):
-        sent = [algorithm.letters(bounds, state) for state in states]
-        states = [algorithm.receive(bounds, state, _received(network, node, sent)) for node, state in enumerate(states)]
+        states = after_round(ends, bounds, algorithm, states)
     return states
-
-
-def _received(network, node, sent):
-    return [sent[other][network.far_port(node, port)] for port, other in enumerate(network.neighbors(node))]

@@ -5,18 +5,22 @@ import unittest
 
 from nearby.balls import ball_of, output_in_ball, output_in_view, view_of
 from nearby.building import path, renamed
+from nearby.checks import Content
 from nearby.coloring import Colors, Fewer, Shrink, is_coloring
 from nearby.forests import Forests, Heights, are_forests
+from nearby.linkwork import LinkColors, OnLinks, are_link_colors
 from nearby.matching import CoverByMatching, Matching, MatchingFromColors, NamelessCover, is_matching
 from nearby.matching import is_maximal_matching
 from nearby.netreader import network_text
 from nearby.network import bounds_of
+from nearby.ordered import FirstIndependent
+from nearby.powers import FarColors, FarIndependent, OnPower
 from nearby.ruling import Clusters, ClustersFromRulers, Rulers, are_clusters, are_rulers
 from nearby.running import run
 from nearby.sets import (
     Independent, IndependentFromColors, is_cover, is_dominating, is_independent, is_maximal_independent,
 )
-from tests.helpers import inputs_for, is_data, outputs_of, samples, scattered
+from tests.helpers import Mixed, inputs_for, is_data, outputs_of, samples, scattered
 
 
 def algorithms(network):
@@ -28,7 +32,10 @@ def algorithms(network):
         (Shrink(), None), (Fewer(bounds[1]), network.names()), (Colors(), None), (IndependentFromColors(), colors),
         (Independent(), None), (MatchingFromColors(), colors), (Matching(), None), (CoverByMatching(), None),
         (NamelessCover(), None), (Rulers(), None), (ClustersFromRulers(), rulers), (Clusters(), None),
-        (Forests(), None), (Heights(3), None),
+        (Forests(), None), (Heights(3), None), (FirstIndependent(3), None),
+        (Content(("colors", 2)), colors), (Content(("independent",)), colors), (Content(("matching",)), colors),
+        (OnPower(Mixed(2), 2), colors), (FarColors(1), None), (FarIndependent(2), None),
+        (OnLinks(Mixed(2)), None), (LinkColors(), None),
     ]
 
 
@@ -63,7 +70,8 @@ class AlgorithmsTest(unittest.TestCase):
     def test_a_node_alone(self):
         network = renamed(path(1), [6])
         expected = [
-            [6], [0], [0], [1], [1], [-1], [-1], [0], [0], [1], [(6, 0, -1)], [(6, 0, -1)], [()], [0],
+            [6], [0], [0], [1], [1], [-1], [-1], [0], [0], [1], [(6, 0, -1)], [(6, 0, -1)], [()], [0], [1],
+            [1], [0], [0], [0], [0], [1], [()], [()],
         ]
         for (algorithm, given), outputs in zip(algorithms(network), expected):
             self.assertEqual(outputs_of(network, bounds_of(network), algorithm, given), outputs)
@@ -100,6 +108,7 @@ class ChecksTest(unittest.TestCase):
             (is_dominating, [0, 1, 1], []), (is_cover, [0, 1, 1], []), (is_matching, [-1, -1, -1], []),
             (is_maximal_matching, [0, 0, -1], []), (are_rulers, [1, 0, 1], [1]),
             (are_clusters, [(0, 0, -1), (0, 1, 0), (2, 0, -1)], [1]), (are_forests, [(0,), (-1, 0), (-1,)], []),
+            (are_link_colors, [(1,), (1, 0), (0,)], [2]),
         ]:
             before = copy.deepcopy(outputs)
             for _ in range(2):

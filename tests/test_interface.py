@@ -43,6 +43,13 @@ FUNCTIONS = {
         "says_yes": "sort name label neighbors", "all_say_yes": "sort network labels", "labels_for": "sort network",
     },
     "laboratory": {"algorithm_named": "word", "output_text": "output"},
+    "lossy": {"run_lossy": "network bounds algorithm choices *given"},
+    "powers": {"power": "network exponent", "power_bounds": "bounds exponent"},
+    "linkwork": {
+        "link_network": "network bounds", "link_bounds": "bounds", "are_link_colors": "network outputs colors",
+    },
+    "checks": {"least_radius": "task named networks *most"},
+    "ordered": {"first_independent": "network"},
 }
 
 CLASSES = {
@@ -60,6 +67,10 @@ CLASSES = {
     "ruling": {"Rulers": "", "ClustersFromRulers": "", "Clusters": ""},
     "forests": {"Forests": "", "Heights": "count"},
     "laboratory": {"Laboratory": ""},
+    "powers": {"OnPower": "algorithm exponent", "FarColors": "exponent", "FarIndependent": "exponent"},
+    "linkwork": {"OnLinks": "algorithm", "LinkColors": ""},
+    "checks": {"Content": "task"},
+    "ordered": {"FirstIndependent": "count"},
 }
 
 METHODS = {
@@ -74,7 +85,13 @@ ALGORITHM_METHODS = {
     "receive": "bounds state received", "output": "bounds state",
 }
 
-ALGORITHMS = ["simple", "joining", "balls", "coloring", "sets", "matching", "ruling", "forests"]
+ALGORITHMS = [
+    "simple", "joining", "balls", "coloring", "sets", "matching", "ruling", "forests", "powers", "linkwork", "checks",
+    "ordered",
+]
+
+# What the parameters are that are passed by keyword, if nothing is passed.
+DEFAULTS = {"given": None, "most": 4}
 
 
 def told_parameters(function):
@@ -95,7 +112,7 @@ class InterfaceTest(unittest.TestCase):
                 self.assertEqual(told_parameters(function), parameters, name)
                 for parameter in inspect.signature(function).parameters.values():
                     if parameter.kind is parameter.KEYWORD_ONLY:
-                        self.assertIsNone(parameter.default)
+                        self.assertEqual(parameter.default, DEFAULTS[parameter.name])
 
     def test_classes(self):
         for file, classes in CLASSES.items():
