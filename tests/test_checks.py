@@ -159,6 +159,10 @@ class LeastRadiusTest(unittest.TestCase):
             found = least_radius(task, named, networks, most=8)
             self.assertEqual(found, least_by_words(task, named, networks, 8))
             self.assertGreater(found, radius)
+        task, _, named, networks = two_paths(2)
+        self.assertIsNone(least_radius(task, named, networks))
+        self.assertIsNone(least_radius(task, named, networks, most=4))
+        self.assertEqual(least_radius(task, named, networks, most=5), 5)
 
     def test_greater_limits(self):
         networks = [path(9), path(10)]

@@ -50,6 +50,17 @@ FUNCTIONS = {
     },
     "checks": {"least_radius": "task named networks *most"},
     "ordered": {"first_independent": "network"},
+    "steady": {
+        "right_memories": "network bounds algorithm *given", "steady_step": "network bounds algorithm memories *given",
+        "run_steady": "network bounds algorithm memories rounds *given",
+    },
+    "pieces": {"data_text": "data", "read_data": "text", "longest_letter": "network bounds algorithm *given"},
+    "cuts": {"cut_links": "network outputs"},
+    "clustersums": {"cluster_network": "network outputs"},
+    "alike": {
+        "are_alike": "first node second other radius named", "alike_radius": "first node second other named",
+        "alike_pairs": "first second radius named",
+    },
 }
 
 CLASSES = {
@@ -71,6 +82,9 @@ CLASSES = {
     "linkwork": {"OnLinks": "algorithm", "LinkColors": ""},
     "checks": {"Content": "task"},
     "ordered": {"FirstIndependent": "count"},
+    "pieces": {"InPieces": "algorithm size length"},
+    "cuts": {"CutFromColors": "", "Cut": ""},
+    "clustersums": {"ClusterSums": ""},
 }
 
 METHODS = {
@@ -87,7 +101,7 @@ ALGORITHM_METHODS = {
 
 ALGORITHMS = [
     "simple", "joining", "balls", "coloring", "sets", "matching", "ruling", "forests", "powers", "linkwork", "checks",
-    "ordered",
+    "ordered", "pieces", "cuts", "clustersums",
 ]
 
 # What the parameters are that are passed by keyword, if nothing is passed.
